@@ -205,8 +205,40 @@ func checkFreshWindow(t *testing.T, name string, call func() impl.Window) {
 }
 
 // roomyList keeps numbers behind a list, where no function may write.
-func roomyList(list []int) ([]int, func() bool) {
-	longer := append(slices.Clone(list), 3, 1, 4)
+func roomyList(list []int) ([]int, func() bool) { return roomyOf(list, 3, 1, 4) }
+
+// roomyOf is roomyList for a list of any kind.
+func roomyOf[T comparable](list []T, behind ...T) ([]T, func() bool) {
+	longer := append(slices.Clone(list), behind...)
 	kept := slices.Clone(longer)
 	return longer[:len(list)], func() bool { return slices.Equal(longer, kept) }
+}
+
+// checkFreshOf is checkFresh for one list of any kind.
+func checkFreshOf[T comparable](t *testing.T, name string, junk T, call func() []T) {
+	t.Helper()
+	first, second := call(), call()
+	kept := slices.Clone(first)
+	if !slices.Equal(second, kept) {
+		t.Errorf("%s: a second call returns %v after %v", name, second, kept)
+		return
+	}
+	second = second[:cap(second)]
+	for i := range second {
+		second[i] = junk
+	}
+	if !slices.Equal(first, kept) {
+		t.Errorf("%s: two results share memory", name)
+	}
+}
+
+// facesWithin are all but the wall around.
+func facesWithin(w impl.Window) []int {
+	faces := []int{}
+	for f := range facesByAngle(w) {
+		if f != wallAround(w) {
+			faces = append(faces, f)
+		}
+	}
+	return faces
 }
