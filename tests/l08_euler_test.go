@@ -100,7 +100,7 @@ func checkCounts(t *testing.T, name string, w impl.Window) {
 }
 
 func TestCountsOfAllWindows(t *testing.T) {
-	for name, w := range allWindows() {
+	for name, w := range byName(allWindows()) {
 		checkCounts(t, name, w)
 	}
 	source := rand.New(rand.NewSource(8))

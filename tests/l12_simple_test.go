@@ -170,7 +170,7 @@ func checkStraight(t *testing.T, name string, w impl.Window) {
 }
 
 func TestJoiningLeadsChangesNoArea(t *testing.T) {
-	for name, w := range allWindows() {
+	for name, w := range byName(allWindows()) {
 		checkStraight(t, name, w)
 	}
 	source := rand.New(rand.NewSource(12))

@@ -146,7 +146,7 @@ func checkBadSet(t *testing.T, w impl.Window, wishes []int, n int, bad []int) {
 func TestWishesAreFulfilledOrContradictEachOther(t *testing.T) {
 	source := rand.New(rand.NewSource(14))
 	filled, failed, forced := 0, 0, 0
-	for name, w := range someWholeWindows(141, 120) {
+	for name, w := range byName(someWholeWindows(141, 120)) {
 		beside := besideLists(w)
 		for n := 1; n <= 6 && (n <= 4 || len(beside) <= 7); n++ {
 			wishes := randomWishes(source, len(beside), n)
@@ -281,7 +281,7 @@ func TestCountWishes(t *testing.T) {
 
 func TestWishesLeaveArgumentsAsTheyAre(t *testing.T) {
 	source := rand.New(rand.NewSource(144))
-	for name, w := range wholeWindows() {
+	for name, w := range byName(wholeWindows()) {
 		roomy, isUntouched := roomyWindow(w)
 		for n := 1; n <= 4; n++ {
 			wishes, areUntouched := roomyList(randomWishes(source, len(facesByAngle(w)), n))

@@ -198,7 +198,7 @@ func checkChains(t *testing.T, name string, w impl.Window, beside [][]int, color
 
 func TestSwappingTwiceIsAsBefore(t *testing.T) {
 	source := rand.New(rand.NewSource(15))
-	for name, w := range someWholeWindows(151, 60) {
+	for name, w := range byName(someWholeWindows(151, 60)) {
 		beside := besideLists(w)
 		for n := 2; n <= 6; n++ {
 			if colors, ok := randomProper(source, beside, n); ok {
@@ -239,7 +239,7 @@ func TestFreeFaceByHand(t *testing.T) {
 func TestFreeFace(t *testing.T) {
 	source := rand.New(rand.NewSource(150))
 	free, swapped, failed := 0, 0, 0
-	for name, w := range someWholeWindows(152, 400) {
+	for name, w := range byName(someWholeWindows(152, 400)) {
 		beside := besideLists(w)
 		for n := 2; n <= 6; n++ {
 			colors, ok := randomProper(source, beside, 2+source.Intn(n-1))

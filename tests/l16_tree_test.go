@@ -214,7 +214,7 @@ func TestListsThatAreNoTrees(t *testing.T) {
 
 func TestRandomListsOfLeads(t *testing.T) {
 	source := rand.New(rand.NewSource(160))
-	for name, w := range wholeWindows() {
+	for name, w := range byName(wholeWindows()) {
 		for range 300 {
 			list := source.Perm(len(w.Leads))[:source.Intn(len(w.Leads)+1)]
 			if source.Intn(4) > 0 {

@@ -266,7 +266,7 @@ func TestAssembliesOfAllOrders(t *testing.T) {
 func TestPanesAreSetAndTakenAwayOneByOne(t *testing.T) {
 	source := rand.New(rand.NewSource(170))
 	taken := 0
-	for name, w := range someWholeWindows(171, 150) {
+	for name, w := range byName(someWholeWindows(171, 150)) {
 		set := numberOf(facesWithin(w))
 		first, isSet := []int{}, false
 		for _, f := range facesWithin(w) {

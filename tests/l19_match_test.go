@@ -177,7 +177,7 @@ func TestTheBackOfAPaneDoesNotFit(t *testing.T) {
 
 func TestAllLostPanesFindAPlace(t *testing.T) {
 	source := rand.New(rand.NewSource(19))
-	for name, w := range someWholeWindows(191, 150) {
+	for name, w := range byName(someWholeWindows(191, 150)) {
 		for range 6 {
 			checkMatch(t, name, w, someShapes(source, w, source.Intn(6)))
 		}
@@ -270,7 +270,7 @@ func TestFacesAndWindowsWithoutPlaces(t *testing.T) {
 
 func TestLostPanesLeaveArgumentsAsTheyAre(t *testing.T) {
 	source := rand.New(rand.NewSource(192))
-	for name, w := range wholeWindows() {
+	for name, w := range byName(wholeWindows()) {
 		roomy, isUntouched := roomyWindow(w)
 		shapes := someShapes(source, w, 5)
 		areUntouched := []func() bool{}

@@ -1,6 +1,7 @@
 package tests
 
 import (
+	"iter"
 	"maps"
 	"math/rand"
 	"slices"
@@ -66,6 +67,18 @@ func apartWindows() map[string]impl.Window {
 		"one in another":     drawn([]int{0, 0, 16, 0, 0, 16, 2, 2, 6, 2, 2, 6}, 0, 1, 1, 2, 0, 2, 3, 4, 4, 5, 3, 5),
 		"three parts":        drawn([]int{0, 0, 0, 9, 3, 0, 3, 9, 6, 0, 6, 9}, 4, 5, 0, 1, 2, 3),
 		"pane and two nodes": drawn([]int{0, 0, 16, 0, 0, 16, 2, 2, 20, 20}, 0, 1, 1, 2, 0, 2),
+	}
+}
+
+// byName goes through windows in the same order each time. Without it, a test
+// that takes random numbers on the way would do something else in every run.
+func byName(windows map[string]impl.Window) iter.Seq2[string, impl.Window] {
+	return func(yield func(name string, w impl.Window) bool) {
+		for _, name := range slices.Sorted(maps.Keys(windows)) {
+			if !yield(name, windows[name]) {
+				return
+			}
+		}
 	}
 }
 
